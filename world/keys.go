@@ -2,13 +2,14 @@ package world
 
 import (
 	"keyhold/api"
+	"keyhold/plain"
 	"keyhold/word"
 )
 
 // badSlot: is a slot not well?
 func (v *view) badSlot(n int, s api.Slot) bool {
 	if s.Key == (api.Key{}) {
-		return s.From != none
+		return s.From != plain.None
 	}
 	return v.Kinds[n/api.Words] != api.Node || !v.opens(s.Key) || !v.isMade(s) || v.isEndless(s.From)
 }
@@ -21,11 +22,11 @@ func (v *view) opens(k api.Key) bool {
 	return k.Kind == api.Clay || v.Kinds[k.Base] == k.Kind
 }
 
-func (v *view) isSlot(n int) bool { return within(n, 0, len(v.Slots)-1) }
+func (v *view) isSlot(n int) bool { return plain.IsSlot(&v.World, n) }
 
 // isMade: is the slot's key made from none, or from one from which it can be made?
 func (v *view) isMade(s api.Slot) bool {
-	if s.From == none {
+	if s.From == plain.None {
 		return true
 	}
 	if !v.isSlot(s.From) {
@@ -38,7 +39,7 @@ func (v *view) isMade(s api.Slot) bool {
 // canMake: clay makes things out of its used frames, any other key lesser ones to the same thing.
 func canMake(from, k api.Key) bool {
 	if from.Kind == api.Clay {
-		return k.Kind != api.Clay && within(k.Base, from.Base, from.Base+from.Mark-1)
+		return k.Kind != api.Clay && plain.Within(k.Base, from.Base, from.Base+from.Mark-1)
 	}
 	if k.Kind != from.Kind || k.Base != from.Base || k.Rights&^from.Rights != 0 {
 		return false
@@ -64,7 +65,7 @@ func (v *view) badFrame(n, kind int) bool {
 		switch k := &v.Slots[i].Key; k.Kind {
 		case api.None:
 		case api.Clay:
-			if within(n, k.Base, k.Base+k.Len-1) {
+			if plain.Within(n, k.Base, k.Base+k.Len-1) {
 				clays++
 				isUnused = isUnused || n >= k.Base+k.Mark
 			}

@@ -1,28 +1,31 @@
 package world
 
-import "keyhold/api"
+import (
+	"keyhold/api"
+	"keyhold/plain"
+)
 
 // badTask: is a task not well? (A frame that is none may stand in a line, in Cores or in Ready: that is told there.)
 func (v *view) badTask(n int, t api.Running) bool {
 	if v.Kinds[n] != api.Task {
-		return t != blank()
+		return t != plain.Blank()
 	}
 	return !v.numbersFit(t) || !v.framesFit(t) || !v.debtsFit(n, t) || !v.standsRight(n, t) || !v.runsRight(n, t)
 }
 
 func (v *view) numbersFit(t api.Running) bool {
 	for _, r := range t.Regs {
-		if !isWord(r) {
+		if !plain.IsWord(r) {
 			return false
 		}
 	}
-	if !isWord(t.Pc) || !isWord(t.Word) || !isWord(t.Badge) {
+	if !plain.IsWord(t.Pc) || !plain.IsWord(t.Word) || !plain.IsWord(t.Badge) {
 		return false
 	}
-	if !within(t.State, api.Still, api.Listening) || !within(t.Prio, 0, api.MaxPrio-1) {
+	if !plain.Within(t.State, api.Still, api.Listening) || !plain.Within(t.Prio, 0, api.MaxPrio-1) {
 		return false
 	}
-	return within(t.Core, 0, len(v.Cores)-1) && within(t.Dom, 0, maxDom)
+	return plain.Within(t.Core, 0, len(v.Cores)-1) && plain.Within(t.Dom, 0, maxDom)
 }
 
 func (v *view) framesFit(t api.Running) bool {
@@ -31,7 +34,7 @@ func (v *view) framesFit(t api.Running) bool {
 
 // debtsFit: who asks is owed by one, and nobody else is owed.
 func (v *view) debtsFit(n int, t api.Running) bool {
-	if t.Owes != none && (v.Tasks[t.Owes].State != api.Asking || t.State == api.Waiting) {
+	if t.Owes != plain.None && (v.Tasks[t.Owes].State != api.Asking || t.State == api.Waiting) {
 		return false
 	}
 	owed := 0
@@ -52,7 +55,7 @@ func (v *view) standsRight(n int, t api.Running) bool {
 	if kind := placeOf(t.State); kind != api.None {
 		return v.is(t.At, kind) && all == 1 && count(v.Lines[t.At], n) == 1
 	}
-	return t.At == none && all == 0
+	return t.At == plain.None && all == 0
 }
 
 // placeOf is the kind of thing where a task of a state stands (None: nowhere).
@@ -100,7 +103,7 @@ func (v *view) badLine(n int, line []int) bool {
 	if len(line) > 0 && !bell && v.Kinds[n] != api.Door {
 		return true
 	}
-	if v.Bits[n] != 0 && (!bell || len(line) > 0 || !isWord(v.Bits[n])) {
+	if v.Bits[n] != 0 && (!bell || len(line) > 0 || !plain.IsWord(v.Bits[n])) {
 		return true
 	}
 	for _, t := range line {
@@ -123,7 +126,7 @@ func (v *view) isReady(t, core int) bool {
 }
 
 // badCore: does someone run on a core who may not?
-func (v *view) badCore(core, t int) bool { return t != none && !v.isReady(t, core) }
+func (v *view) badCore(core, t int) bool { return t != plain.None && !v.isReady(t, core) }
 
 // badReady: is someone next in a list of Ready that is not theirs?
 func (v *view) badReady(n int, list []int) bool {

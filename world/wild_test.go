@@ -7,32 +7,27 @@ import (
 	"testing"
 
 	"keyhold/api"
+	"keyhold/sample"
 	"keyhold/world"
 )
 
-// die: numbers that look drawn, the same each time.
-type die uint64
-
-func (d *die) n(most int) int {
-	*d = *d*6364136223846793005 + 1442695040888963407
-	return int(uint64(*d>>33) % uint64(most))
-}
+type die struct{ sample.Die }
 
 // odd is a number that may be at an edge.
 func (d *die) odd() int {
 	edges := []int{math.MinInt, -65536, -2, -1, 0, 1, 3, 4, 7, 8, 9, 15, 16, 23, 24, 255, 256, 383, 384, 0x8003, 0xc004, 65535, 65536, 1000000, math.MaxInt}
-	if d.n(2) == 0 {
-		return d.n(26) - 1
+	if d.N(2) == 0 {
+		return d.N(26) - 1
 	}
-	return edges[d.n(len(edges))]
+	return edges[d.N(len(edges))]
 }
 
 // spoil changes one number of a world, whichever.
 func (d *die) spoil(w *api.World) {
-	f, v := d.n(24), d.odd()
-	switch s, r := &w.Slots[d.n(len(w.Slots))], &w.Tasks[f]; d.n(20) {
+	f, v := d.N(24), d.odd()
+	switch s, r := &w.Slots[d.N(len(w.Slots))], &w.Tasks[f]; d.N(20) {
 	case 0:
-		w.Ram[d.n(len(w.Ram))] = v
+		w.Ram[d.N(len(w.Ram))] = v
 	case 1:
 		w.Kinds[f] = v
 	case 2:
@@ -40,7 +35,7 @@ func (d *die) spoil(w *api.World) {
 	case 3:
 		s.From = v
 	case 4:
-		*s = key(d.n(9), d.n(24), d.n(8), 0, v)
+		*s = key(d.N(9), d.N(24), d.N(8), 0, v)
 	case 5:
 		r.State = v
 	case 6:
@@ -52,37 +47,37 @@ func (d *die) spoil(w *api.World) {
 	case 9:
 		r.Owes = v
 	case 10:
-		r.Regs[d.n(8)] = v
+		r.Regs[d.N(8)] = v
 	case 11:
 		w.Lines[f] = append(w.Lines[f], v)
 	case 12:
 		w.Bits[f] = v
 	case 13:
-		w.Cores[d.n(2)] = v
+		w.Cores[d.N(2)] = v
 	case 14:
-		at := d.n(8)
+		at := d.N(8)
 		w.Ready[at] = append(w.Ready[at], v)
 	case 15:
-		at := d.n(2)
+		at := d.N(2)
 		w.Tlbs[at] = append(w.Tlbs[at], api.Entry{Space: v, Page: d.odd(), Frame: d.odd()})
 	case 16:
-		w.Doms[d.n(2)] = v
+		w.Doms[d.N(2)] = v
 	case 17:
 		w.Time = v
 	case 18:
-		*r = api.Running{State: d.n(8), At: v, Owes: d.odd(), Core: d.n(3)}
+		*r = api.Running{State: d.N(8), At: v, Owes: d.odd(), Core: d.N(3)}
 	case 19:
-		w.Slots[d.n(24)].From = v
+		w.Slots[d.N(24)].From = v
 	}
 }
 
 // Z1, Z2, Z3: whatever a world is, Check ends, tells an error of package api at a number that is there, the same each time, and changes nothing.
 func TestWild(t *testing.T) {
-	d := die(5)
+	d := die{5}
 	told := map[api.Errno]int{}
 	for range 4000 {
 		w := full()
-		for range 1 + d.n(4) {
+		for range 1 + d.N(4) {
 			d.spoil(&w)
 		}
 		before := clone(w)
@@ -112,14 +107,14 @@ func TestWild(t *testing.T) {
 
 // Z1: lists of any lengths.
 func TestWildLengths(t *testing.T) {
-	d := die(7)
+	d := die{7}
 	for range 3000 {
 		w := full()
-		w.Ram, w.Slots = w.Ram[:384-d.n(2)*d.n(385)], w.Slots[:384-d.n(2)*d.n(385)]
-		w.Kinds, w.Tasks = w.Kinds[:24-d.n(2)*d.n(25)], w.Tasks[:24-d.n(2)*d.n(25)]
-		w.Lines, w.Bits = w.Lines[:24-d.n(2)*d.n(25)], w.Bits[:24-d.n(2)*d.n(25)]
-		w.Cores, w.Ready, w.Tlbs = w.Cores[:2-d.n(2)*d.n(3)], w.Ready[:8-d.n(2)*d.n(9)], w.Tlbs[:2-d.n(2)*d.n(3)]
-		w.Doms = w.Doms[:2-d.n(2)*d.n(3)]
+		w.Ram, w.Slots = w.Ram[:384-d.N(2)*d.N(385)], w.Slots[:384-d.N(2)*d.N(385)]
+		w.Kinds, w.Tasks = w.Kinds[:24-d.N(2)*d.N(25)], w.Tasks[:24-d.N(2)*d.N(25)]
+		w.Lines, w.Bits = w.Lines[:24-d.N(2)*d.N(25)], w.Bits[:24-d.N(2)*d.N(25)]
+		w.Cores, w.Ready, w.Tlbs = w.Cores[:2-d.N(2)*d.N(3)], w.Ready[:8-d.N(2)*d.N(9)], w.Tlbs[:2-d.N(2)*d.N(3)]
+		w.Doms = w.Doms[:2-d.N(2)*d.N(3)]
 		same := len(w.Ram) == 384 && len(w.Slots) == 384 && len(w.Kinds) == 24 && len(w.Tasks) == 24 && len(w.Lines) == 24 && len(w.Bits) == 24
 		same = same && len(w.Cores) == 2 && len(w.Ready) == 8 && len(w.Tlbs) == 2 && len(w.Doms) > 0
 		if err := world.Check(w); !same && err != error(api.ErrRange) || same && err != nil {

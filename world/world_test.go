@@ -7,6 +7,8 @@ import (
 	"testing"
 
 	"keyhold/api"
+	"keyhold/plain"
+	"keyhold/sample"
 	"keyhold/world"
 )
 
@@ -58,93 +60,15 @@ func clone(w api.World) api.World {
 	return w
 }
 
-// blank is the task of a frame that is none.
-func blank() api.Running {
-	return api.Running{Node: -1, Space: -1, Helper: -1, At: -1, Owes: -1}
-}
+// Worlds, slots and frames as the tests name them.
+var full, hollow, key, clay = sample.Full, sample.Hollow, sample.Key, sample.Clay
 
-// key is one to a frame, made from a slot.
-func key(kind, base, rights, badge, from int) api.Slot {
-	return api.Slot{Key: api.Key{Kind: kind, Base: base, Len: 1, Rights: rights, Badge: badge}, From: from}
-}
-
-// clay is a key to frames that are nothing yet, but for the first used ones.
-func clay(base, length, used int) api.Slot {
-	return api.Slot{Key: api.Key{Kind: api.Clay, Base: base, Len: length, Mark: used, Rights: 7}, From: -1}
-}
-
-// hollow is a world in which nothing is, written out by hand.
-func hollow(frames, cores int, doms ...int) api.World {
-	w := api.World{
-		Ram: make([]int, 16*frames), Kinds: make([]int, frames), Lines: make([][]int, frames), Bits: make([]int, frames),
-		Ready: make([][]int, 4*cores), Tlbs: make([][]api.Entry, cores), Doms: doms,
-	}
-	for range 16 * frames {
-		w.Slots = append(w.Slots, api.Slot{From: -1})
-	}
-	for range frames {
-		w.Tasks = append(w.Tasks, blank())
-	}
-	for range cores {
-		w.Cores = append(w.Cores, -1)
-	}
-	return w
-}
-
-// Frames of a full world: 0 and 1 are nodes, 18 to 20 clay that is not used, 21 and 22 other clay, 23 is nothing at all.
 const (
-	space, table, page, page2                                         = 2, 3, 4, 5
-	runs, next, sends, calls, waits, asks, listens, still, door, desk = 6, 7, 8, 9, 10, 11, 12, 13, 14, 15
-	bell, rung                                                        = 16, 17
+	space, table, page, page2              = sample.Space, sample.Table, sample.Page, sample.Page2
+	runs, next, sends, calls, waits        = sample.Runs, sample.Next, sample.Sends, sample.Calls, sample.Waits
+	asks, listens, still, door, desk, bell = sample.Asks, sample.Listens, sample.Still, sample.Door, sample.Desk, sample.Bell
+	rung                                   = sample.Rung
 )
-
-// full is a sound world with a task in each state. Frames 1 to 17 are of the clay of slot 1; the key to frame f is in slot f+1.
-func full() api.World {
-	w := hollow(24, 2, 0, 1)
-	w.Time = 7
-	w.Kinds[0] = api.Node
-	w.Slots[0] = key(api.Node, 0, 7, 0, -1)
-	w.Slots[1] = clay(1, 20, 17)
-	kinds := []int{api.Node, api.Space, api.Table, api.Page, api.Page,
-		api.Task, api.Task, api.Task, api.Task, api.Task, api.Task, api.Task, api.Task,
-		api.Door, api.Door, api.Bell, api.Bell}
-	for i, kind := range kinds {
-		w.Kinds[1+i] = kind
-		w.Slots[2+i] = key(kind, 1+i, 7, 0, 1)
-	}
-	w.Slots[19] = clay(21, 2, 0)
-	w.Slots[20] = key(api.Door, door, 3, 5, 15)
-	w.Slots[21] = key(api.Door, door, 1, 5, 20)
-	w.Slots[22] = key(api.Page, page, 1, 0, 5)
-	w.Slots[23] = key(api.Bell, bell, 6, 65535, 17)
-	w.Ram[32] = 0x8003
-	w.Ram[48], w.Ram[49] = 0x8004, 0xc005
-	w.Tlbs[0] = []api.Entry{{Space: space, Page: 0, Frame: page}, {Space: space, Page: 1, Frame: page2, Write: true}}
-	w.Tlbs[1] = []api.Entry{{Space: space, Page: 1, Frame: page2, Write: true}}
-	for t := runs; t <= still; t++ {
-		w.Tasks[t].Node, w.Tasks[t].Space = 1, space
-	}
-	place := func(t, state, at int) { w.Tasks[t].State, w.Tasks[t].At = state, at }
-	place(runs, api.Ready, -1)
-	w.Cores[0] = runs
-	w.Tasks[runs].Owes, w.Tasks[runs].Dom, w.Tasks[runs].Regs = asks, 3, [8]int{0, 65535, 2, 3, 4, 5, 6, 65535}
-	place(next, api.Ready, -1)
-	w.Tasks[next].Core, w.Tasks[next].Prio, w.Tasks[next].Pc = 1, 2, 65535
-	w.Ready[1*4+2] = []int{next}
-	place(sends, api.Sending, door)
-	w.Tasks[sends].Word, w.Tasks[sends].Badge = 65535, 65535
-	place(calls, api.Calling, door)
-	w.Tasks[calls].Helper = desk
-	w.Lines[door] = []int{sends, calls}
-	place(waits, api.Waiting, desk)
-	w.Lines[desk] = []int{waits}
-	place(asks, api.Asking, -1)
-	place(listens, api.Listening, bell)
-	w.Lines[bell] = []int{listens}
-	w.Bits[rung] = 65535
-	w.Tasks[still].Prio, w.Tasks[still].Core = 3, 1
-	return w
-}
 
 // spoiled: a way to make a world unsound, and what is then told.
 type spoiled struct {
@@ -388,7 +312,7 @@ func TestCheckRange(t *testing.T) {
 		{"Slots is long", func(w *api.World) { w.Slots = append(w.Slots, api.Slot{From: -1}) }, api.ErrRange, -1},
 		{"Slots is none", func(w *api.World) { w.Slots = nil }, api.ErrRange, -1},
 		{"Tasks is short", func(w *api.World) { w.Tasks = w.Tasks[:23] }, api.ErrRange, -1},
-		{"Tasks is long", func(w *api.World) { w.Tasks = append(w.Tasks, blank()) }, api.ErrRange, -1},
+		{"Tasks is long", func(w *api.World) { w.Tasks = append(w.Tasks, plain.Blank()) }, api.ErrRange, -1},
 		{"Tasks is none", func(w *api.World) { w.Tasks = nil }, api.ErrRange, -1},
 		{"Lines is short", func(w *api.World) { w.Lines = w.Lines[:23] }, api.ErrRange, -1},
 		{"Lines is long", func(w *api.World) { w.Lines = append(w.Lines, nil) }, api.ErrRange, -1},

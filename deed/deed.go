@@ -1,0 +1,71 @@
+// Package deed: what is done to worlds.
+package deed
+
+import (
+	"slices"
+
+	"keyhold/api"
+	"keyhold/plain"
+	"keyhold/world"
+)
+
+// Do is the world that comes of another one, if that is sound and what is to be done doesn't refuse it.
+func Do(w api.World, do func(w *api.World) error) (api.World, error) {
+	if world.Check(w) != nil {
+		return api.World{}, api.ErrState
+	}
+	next := twin(w)
+	if err := do(&next); err != nil {
+		return api.World{}, err
+	}
+	return next, nil
+}
+
+// twin is the same world in memory of its own.
+func twin(w api.World) api.World {
+	return api.World{
+		Ram:   slices.Clone(w.Ram),
+		Kinds: slices.Clone(w.Kinds),
+		Slots: slices.Clone(w.Slots),
+		Tasks: slices.Clone(w.Tasks),
+		Lines: twins(w.Lines),
+		Bits:  slices.Clone(w.Bits),
+		Cores: slices.Clone(w.Cores),
+		Ready: twins(w.Ready),
+		Tlbs:  twins(w.Tlbs),
+		Doms:  slices.Clone(w.Doms),
+		Time:  w.Time,
+	}
+}
+
+func twins[T any](lists [][]T) [][]T {
+	all := make([][]T, len(lists))
+	for i, l := range lists {
+		all[i] = slices.Clone(l)
+	}
+	return all
+}
+
+// Stop makes a task still: it stands nowhere, and nobody owes it any more.
+func Stop(w *api.World, t int) {
+	w.Tasks[t].State, w.Tasks[t].At = api.Still, plain.None
+	leave(w.Lines, t)
+	leave(w.Ready, t)
+	for core, runs := range w.Cores {
+		if runs == t {
+			w.Cores[core] = plain.None
+		}
+	}
+	for i := range w.Tasks {
+		if w.Tasks[i].Owes == t {
+			w.Tasks[i].Owes = plain.None
+		}
+	}
+}
+
+// leave takes a task out of all lists.
+func leave(lists [][]int, t int) {
+	for i, l := range lists {
+		lists[i] = slices.DeleteFunc(l, func(other int) bool { return other == t })
+	}
+}

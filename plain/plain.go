@@ -1,0 +1,44 @@
+// Package plain: small things that all layers ask of numbers and of worlds.
+package plain
+
+import (
+	"keyhold/api"
+	"keyhold/mmu"
+)
+
+// None stands where a frame, a slot or a task could be told, and there is none.
+const None = -1
+
+// maxPage is the last page of a space.
+const maxPage = api.Words*api.Words - 1
+
+// Within: is it one of least to most?
+func Within(v, least, most int) bool { return least <= v && v <= most }
+
+// IsWord: can it stand in a word?
+func IsWord(v int) bool { return Within(v, 0, api.MaxWord) }
+
+// Is: is it a frame of this kind?
+func Is(w *api.World, frame, kind int) bool {
+	return Within(frame, 0, len(w.Kinds)-1) && w.Kinds[frame] == kind
+}
+
+// IsSlot: is it the number of a slot?
+func IsSlot(w *api.World, n int) bool { return Within(n, 0, len(w.Slots)-1) }
+
+// Told: do the tables tell what is remembered?
+func Told(w *api.World, e api.Entry) bool {
+	if !Is(w, e.Space, api.Space) || !Within(e.Page, 0, maxPage) {
+		return false
+	}
+	to, write, err := mmu.Walk(w.Ram, e.Space, e.Page*api.Words)
+	return err == nil && to == e.Frame && write == e.Write
+}
+
+// Blank is the task of a frame that is no task.
+func Blank() api.Running {
+	return api.Running{Node: None, Space: None, Helper: None, At: None, Owes: None}
+}
+
+// Empty is a slot without a key.
+func Empty() api.Slot { return api.Slot{From: None} }
