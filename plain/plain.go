@@ -26,6 +26,17 @@ func Is(w *api.World, frame, kind int) bool {
 // IsSlot: is it the number of a slot?
 func IsSlot(w *api.World, n int) bool { return Within(n, 0, len(w.Slots)-1) }
 
+// Full: is there something in a slot?
+func Full(w *api.World, slot int) error {
+	if !IsSlot(w, slot) {
+		return api.ErrRange
+	}
+	if w.Slots[slot].Key.Kind == api.None {
+		return api.ErrEmpty
+	}
+	return nil
+}
+
 // Told: do the tables tell what is remembered?
 func Told(w *api.World, e api.Entry) bool {
 	if !Is(w, e.Space, api.Space) || !Within(e.Page, 0, maxPage) {

@@ -41,6 +41,20 @@ func TestFramesAndSlots(t *testing.T) {
 	}
 }
 
+// Of no slot, of an empty one, of one with whatever key.
+func TestFull(t *testing.T) {
+	w := sample.Full()
+	for n, want := range map[int]error{
+		math.MinInt: api.ErrRange, -1: api.ErrRange, 384: api.ErrRange, math.MaxInt: api.ErrRange,
+		24: api.ErrEmpty, 31: api.ErrEmpty, 32: api.ErrEmpty, 383: api.ErrEmpty,
+		0: nil, 1: nil, 18: nil, 19: nil, 23: nil,
+	} {
+		if err := plain.Full(&w, n); err != want {
+			t.Errorf("slot %d: %v, want %v", n, err, want)
+		}
+	}
+}
+
 // Only what the tables tell, just so, is told; and only of a thing that is a space.
 func TestTold(t *testing.T) {
 	w := sample.Full()

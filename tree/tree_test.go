@@ -3,7 +3,6 @@ package tree_test
 import (
 	"fmt"
 	"math"
-	"reflect"
 	"slices"
 	"testing"
 
@@ -23,11 +22,10 @@ const (
 
 var full, key, clay, empty = sample.Full, sample.Key, sample.Clay, api.Slot{From: -1}
 
-// change: something done to a world.
-type change func(w *api.World)
-
-// call: one of the package's calls.
-type call func(w api.World) (api.World, error)
+type (
+	change = sample.Change
+	call   = sample.Call
+)
 
 func copies(from, to, rights, badge int) call {
 	return func(w api.World) (api.World, error) { return tree.Copy(w, from, to, rights, badge) }
@@ -45,71 +43,19 @@ func revokes(slot int) call {
 	return func(w api.World) (api.World, error) { return tree.Revoke(w, slot) }
 }
 
-// done: of a full world, first altered, the call makes one that differs by what is wanted, and by nothing else; it is sound, fresh, and the first is as it was.
+// done: of a full world, first altered, the call makes one that differs by what is wanted, and by nothing else.
 func done(t *testing.T, why string, first change, do call, wanted change) {
 	t.Helper()
-	begin, want := full(), full()
-	first(&begin)
-	first(&want)
-	wanted(&want)
-	if err := world.Check(begin); err != nil {
-		t.Fatalf("%s: this world to begin with is not sound: %v", why, err)
+	if wrong := sample.Done(first, do, wanted, fmt.Sprint); wrong != "" {
+		t.Errorf("%s: %s", why, wrong)
 	}
-	w, whole := sample.Roomy(begin)
-	before := fmt.Sprint(whole)
-	got, err := do(w)
-	if err != nil {
-		t.Errorf("%s: %v", why, err)
-		return
-	}
-	if fmt.Sprint(got) != fmt.Sprint(want) {
-		t.Errorf("%s: %s", why, differences(got, want))
-	}
-	if err := world.Check(got); err != nil {
-		t.Errorf("%s: it is no longer sound: %v", why, err)
-	}
-	if !sample.Apart(got) {
-		t.Errorf("%s: two lists share memory", why)
-	}
-	if fmt.Sprint(whole) != before {
-		t.Errorf("%s: what was handed in is written into", why)
-	}
-}
-
-// differences tells in which lists two worlds differ, and how.
-func differences(got, want api.World) string {
-	all := ""
-	g, w := reflect.ValueOf(got), reflect.ValueOf(want)
-	for i := range g.NumField() {
-		if g.Field(i).Kind() != reflect.Slice || g.Field(i).Len() != w.Field(i).Len() {
-			if a, b := fmt.Sprint(g.Field(i)), fmt.Sprint(w.Field(i)); a != b {
-				all += fmt.Sprintf("%s: %s, want %s; ", g.Type().Field(i).Name, a, b)
-			}
-			continue
-		}
-		for n := range g.Field(i).Len() {
-			if a, b := fmt.Sprint(g.Field(i).Index(n)), fmt.Sprint(w.Field(i).Index(n)); a != b {
-				all += fmt.Sprintf("%s %d: %s, want %s; ", g.Type().Field(i).Name, n, a, b)
-			}
-		}
-	}
-	return all
 }
 
 // refused: the call tells this error, answers no world, and changes nothing.
 func refused(t *testing.T, why string, begin api.World, do call, want api.Errno) {
 	t.Helper()
-	w, whole := sample.Roomy(begin)
-	before := fmt.Sprint(whole)
-	got, err := do(w)
-	if err != error(want) {
-		t.Errorf("%s: %v, want error %d", why, err, want)
-	}
-	if !reflect.DeepEqual(got, api.World{}) {
-		t.Errorf("%s: a world beside an error", why)
-	}
-	if fmt.Sprint(whole) != before {
-		t.Errorf("%s: what is refused changes something", why)
+	if wrong := sample.Refused(begin, do, want, fmt.Sprint); wrong != "" {
+		t.Errorf("%s: %s", why, wrong)
 	}
 }
 

@@ -137,7 +137,7 @@ func TestDropWild(t *testing.T) {
 			slots, frames := loss(w, slot)
 			lost[len(frames)]++
 			if want := behind(w, got, slots, frames); fmt.Sprint(got) != fmt.Sprint(want) {
-				t.Fatalf("Drop(%d): %s", slot, differences(got, want))
+				t.Fatalf("Drop(%d): %s", slot, sample.Differences(got, want, fmt.Sprint))
 			}
 		}
 	}
@@ -168,7 +168,7 @@ func TestRevokeWild(t *testing.T) {
 				want, _ = tree.Drop(want, l[len(l)-1])
 			}
 			if fmt.Sprint(got) != fmt.Sprint(want) {
-				t.Fatalf("Revoke(%d): %s", slot, differences(got, want))
+				t.Fatalf("Revoke(%d): %s", slot, sample.Differences(got, want, fmt.Sprint))
 			}
 			if slices.ContainsFunc(got.Slots, func(s api.Slot) bool { return s.From == slot }) {
 				t.Fatalf("Revoke(%d): a key made from it is there", slot)
