@@ -46,19 +46,14 @@ func twins[T any](lists [][]T) [][]T {
 	return all
 }
 
-// Stop makes a task still: it stands nowhere, and nobody owes it any more.
-func Stop(w *api.World, t int) {
-	w.Tasks[t].State, w.Tasks[t].At = api.Still, plain.None
+// Leave: a task is on no core, and stands in no line and in no Ready.
+func Leave(w *api.World, t int) {
+	w.Tasks[t].At = plain.None
 	leave(w.Lines, t)
 	leave(w.Ready, t)
 	for core, runs := range w.Cores {
 		if runs == t {
 			w.Cores[core] = plain.None
-		}
-	}
-	for i := range w.Tasks {
-		if w.Tasks[i].Owes == t {
-			w.Tasks[i].Owes = plain.None
 		}
 	}
 }
@@ -67,5 +62,25 @@ func Stop(w *api.World, t int) {
 func leave(lists [][]int, t int) {
 	for i, l := range lists {
 		lists[i] = slices.DeleteFunc(l, func(other int) bool { return other == t })
+	}
+}
+
+// Wake: a task may run, behind all others of its core and priority. It leaves where it was first, since it is to be somewhere once.
+func Wake(w *api.World, t int) {
+	Leave(w, t)
+	r := &w.Tasks[t]
+	r.State = api.Ready
+	n := r.Core*api.MaxPrio + r.Prio
+	w.Ready[n] = append(w.Ready[n], t)
+}
+
+// Stop makes a task still: it stands nowhere, and nobody owes it any more.
+func Stop(w *api.World, t int) {
+	Leave(w, t)
+	w.Tasks[t].State = api.Still
+	for i := range w.Tasks {
+		if w.Tasks[i].Owes == t {
+			w.Tasks[i].Owes = plain.None
+		}
 	}
 }

@@ -106,6 +106,68 @@ func TestStop(t *testing.T) {
 	}
 }
 
+// Who leaves is nowhere; it has its state still, and who owes it goes on owing it.
+func TestLeave(t *testing.T) {
+	for task, clear := range map[int]func(w *api.World){
+		sample.Runs:    func(w *api.World) { w.Cores[0] = -1 },
+		sample.Next:    func(w *api.World) { w.Ready[6] = nil },
+		sample.Sends:   func(w *api.World) { w.Lines[sample.Door] = []int{sample.Calls} },
+		sample.Calls:   func(w *api.World) { w.Lines[sample.Door] = []int{sample.Sends} },
+		sample.Waits:   func(w *api.World) { w.Lines[sample.Desk] = nil },
+		sample.Asks:    func(w *api.World) {},
+		sample.Listens: func(w *api.World) { w.Lines[sample.Bell] = nil },
+		sample.Still:   func(w *api.World) {},
+	} {
+		w, want := sample.Full(), sample.Full()
+		deed.Leave(&w, task)
+		clear(&want)
+		want.Tasks[task].At = -1
+		if wrong := sample.Differences(w, want, fmt.Sprint); wrong != "" {
+			t.Errorf("task %d leaves: %s", task, wrong)
+		}
+	}
+}
+
+// I1: who wakes, from wherever, is Ready, and comes to the end of the list of its core and priority.
+func TestWake(t *testing.T) {
+	for task, clear := range map[int]func(w *api.World){
+		sample.Runs:    func(w *api.World) { w.Cores[0], w.Ready[0] = -1, []int{sample.Runs} },
+		sample.Next:    func(w *api.World) {},
+		sample.Sends:   func(w *api.World) { w.Lines[sample.Door], w.Ready[0] = []int{sample.Calls}, []int{sample.Sends} },
+		sample.Waits:   func(w *api.World) { w.Lines[sample.Desk], w.Ready[0] = nil, []int{sample.Waits} },
+		sample.Listens: func(w *api.World) { w.Lines[sample.Bell], w.Ready[0] = nil, []int{sample.Listens} },
+		sample.Still:   func(w *api.World) { w.Ready[7] = []int{sample.Still} },
+	} {
+		w, want := sample.Full(), sample.Full()
+		deed.Wake(&w, task)
+		clear(&want)
+		want.Tasks[task].State, want.Tasks[task].At = api.Ready, -1
+		if wrong := sample.Differences(w, want, fmt.Sprint); wrong != "" {
+			t.Errorf("task %d wakes: %s", task, wrong)
+		}
+		if err := world.Check(w); err != nil {
+			t.Errorf("task %d wakes: %v", task, err)
+		}
+	}
+}
+
+// Who wakes among others comes behind them, out of the same list, too.
+func TestWakeAmongOthers(t *testing.T) {
+	w := sample.Calm()
+	for _, task := range []int{sample.Runs, sample.Next, sample.Still} {
+		sample.Queue(&w, task, 1, 2, 0)
+	}
+	deed.Wake(&w, sample.Next)
+	w.Tasks[sample.Waits].Core, w.Tasks[sample.Waits].Prio = 1, 2
+	deed.Wake(&w, sample.Waits)
+	if want := []int{sample.Runs, sample.Still, sample.Next, sample.Waits}; !slices.Equal(w.Ready[6], want) {
+		t.Errorf("Ready: %v, want %v", w.Ready[6], want)
+	}
+	if err := world.Check(w); err != nil {
+		t.Error(err)
+	}
+}
+
 // Who stands among others leaves them as they stood.
 func TestStopAmongOthers(t *testing.T) {
 	w := sample.Full()

@@ -18,9 +18,21 @@ func Within(v, least, most int) bool { return least <= v && v <= most }
 // IsWord: can it stand in a word?
 func IsWord(v int) bool { return Within(v, 0, api.MaxWord) }
 
+// IsFrame: is it the number of a frame?
+func IsFrame(w *api.World, n int) bool { return Within(n, 0, len(w.Kinds)-1) }
+
 // Is: is it a frame of this kind?
-func Is(w *api.World, frame, kind int) bool {
-	return Within(frame, 0, len(w.Kinds)-1) && w.Kinds[frame] == kind
+func Is(w *api.World, frame, kind int) bool { return IsFrame(w, frame) && w.Kinds[frame] == kind }
+
+// Thing: what is wrong with a number that should be that of a frame of this kind?
+func Thing(w *api.World, frame, kind int) error {
+	if !IsFrame(w, frame) {
+		return api.ErrRange
+	}
+	if !Is(w, frame, kind) {
+		return api.ErrKind
+	}
+	return nil
 }
 
 // IsSlot: is it the number of a slot?

@@ -34,9 +34,28 @@ func TestFramesAndSlots(t *testing.T) {
 			t.Errorf("%d is no frame", f)
 		}
 	}
+	for n, want := range map[int]bool{math.MinInt: false, -1: false, 0: true, 23: true, 24: false, math.MaxInt: false} {
+		if plain.IsFrame(&w, n) != want {
+			t.Errorf("%d is a frame: not %v", n, want)
+		}
+	}
 	for n, want := range map[int]bool{math.MinInt: false, -1: false, 0: true, 383: true, 384: false, math.MaxInt: false} {
 		if plain.IsSlot(&w, n) != want {
 			t.Errorf("%d is a slot: not %v", n, want)
+		}
+	}
+}
+
+// Of no frame, of one of another kind, of one of this kind.
+func TestThing(t *testing.T) {
+	w := sample.Full()
+	for n, want := range map[int]error{
+		math.MinInt: api.ErrRange, -1: api.ErrRange, 24: api.ErrRange, math.MaxInt: api.ErrRange,
+		0: api.ErrKind, 23: api.ErrKind, sample.Bell: api.ErrKind, sample.Runs: api.ErrKind,
+		sample.Door: nil, sample.Desk: nil,
+	} {
+		if err := plain.Thing(&w, n, api.Door); err != want {
+			t.Errorf("%d as a door: %v, want %v", n, err, want)
 		}
 	}
 }

@@ -14,6 +14,9 @@ func TestSound(t *testing.T) {
 	if err := world.Check(sample.Full()); err != nil {
 		t.Error("Full:", err)
 	}
+	if err := world.Check(sample.Calm()); err != nil {
+		t.Error("Calm:", err)
+	}
 	for _, w := range []api.World{sample.Hollow(1, 1, 0), sample.Hollow(24, 4, 0, 1, 2, 3)} {
 		if err := world.Check(w); err != nil {
 			t.Error("Hollow:", err)
@@ -33,6 +36,33 @@ func TestFullHasAll(t *testing.T) {
 	}
 	if len(kinds) != 8 || len(states) != 7 {
 		t.Errorf("kinds %v, states %v", kinds, states)
+	}
+}
+
+// In a calm world all tasks are Still; they can be placed one by one, and it stays sound.
+func TestCalm(t *testing.T) {
+	w := sample.Calm()
+	for f, kind := range w.Kinds {
+		if kind == api.Task && w.Tasks[f].State != api.Still {
+			t.Errorf("task %d is in state %d", f, w.Tasks[f].State)
+		}
+	}
+	for n, place := range []func(){
+		func() { sample.Run(&w, sample.Runs, 1, 2) },
+		func() { sample.Queue(&w, sample.Next, 1, 3, 1) },
+		func() { sample.Queue(&w, sample.Still, 1, 3, 0) },
+		func() { sample.Stand(&w, sample.Sends, sample.Door, api.Sending) },
+		func() { sample.Stand(&w, sample.Calls, sample.Door, api.Calling) },
+		func() { sample.Stand(&w, sample.Waits, sample.Desk, api.Waiting) },
+		func() { sample.Stand(&w, sample.Listens, sample.Bell, api.Listening) },
+		func() { sample.Ask(&w, sample.Asks, sample.Runs) },
+	} {
+		if place(); world.Check(w) != nil {
+			t.Errorf("behind %d: %v", n, world.Check(w))
+		}
+	}
+	if fmt.Sprint(w.Cores, w.Ready[7], w.Lines[sample.Door]) != "[-1 6] [7 13] [8 9]" {
+		t.Errorf("cores %v, Ready %v, a line %v", w.Cores, w.Ready[7], w.Lines[sample.Door])
 	}
 }
 
