@@ -63,6 +63,24 @@ func TestEntry(t *testing.T) {
 	}
 }
 
+// D1: an entry is one with 0x8000; its frame are its lowest ten bits.
+func TestLeads(t *testing.T) {
+	for e := range 65536 {
+		to, write, ok := mmu.Leads(e)
+		if e < 0x8000 && (to != 0 || write || ok) || e >= 0x8000 && (to != e%1024 || write != (e >= 0xc000) || !ok) {
+			t.Fatalf("Leads(%x): %d, %v, %v", e, to, write, ok)
+		}
+	}
+	for to := range 24 {
+		for _, write := range []bool{false, true} {
+			e, _ := mmu.Entry(to, write)
+			if f, w, ok := mmu.Leads(e); f != to || w != write || !ok {
+				t.Errorf("Leads(Entry(%d, %v)): %d, %v, %v", to, write, f, w, ok)
+			}
+		}
+	}
+}
+
 // The document's examples.
 func TestExamples(t *testing.T) {
 	ram := memory(3, map[int]int{0: 0x8001, 17: 0xc002})

@@ -9,8 +9,11 @@ import (
 // None stands where a frame, a slot or a task could be told, and there is none.
 const None = -1
 
-// maxPage is the last page of a space.
-const maxPage = api.Words*api.Words - 1
+// MaxPage and MaxTime are the last page of a space, and the last time of a sound world.
+const (
+	MaxPage = api.Words*api.Words - 1
+	MaxTime = 1000000
+)
 
 // Within: is it one of least to most?
 func Within(v, least, most int) bool { return least <= v && v <= most }
@@ -20,6 +23,9 @@ func IsWord(v int) bool { return Within(v, 0, api.MaxWord) }
 
 // IsFrame: is it the number of a frame?
 func IsFrame(w *api.World, n int) bool { return Within(n, 0, len(w.Kinds)-1) }
+
+// IsCore: is it the number of a core?
+func IsCore(w *api.World, n int) bool { return Within(n, 0, len(w.Cores)-1) }
 
 // Is: is it a frame of this kind?
 func Is(w *api.World, frame, kind int) bool { return IsFrame(w, frame) && w.Kinds[frame] == kind }
@@ -51,7 +57,7 @@ func Full(w *api.World, slot int) error {
 
 // Told: do the tables tell what is remembered?
 func Told(w *api.World, e api.Entry) bool {
-	if !Is(w, e.Space, api.Space) || !Within(e.Page, 0, maxPage) {
+	if !Is(w, e.Space, api.Space) || !Within(e.Page, 0, MaxPage) {
 		return false
 	}
 	to, write, err := mmu.Walk(w.Ram, e.Space, e.Page*api.Words)

@@ -22,7 +22,7 @@ func TestNumbers(t *testing.T) {
 	}
 }
 
-func TestFramesAndSlots(t *testing.T) {
+func TestFramesCoresSlots(t *testing.T) {
 	w := sample.Full()
 	for f, kind := range w.Kinds {
 		if !plain.Is(&w, f, kind) || plain.Is(&w, f, kind+1) {
@@ -37,6 +37,11 @@ func TestFramesAndSlots(t *testing.T) {
 	for n, want := range map[int]bool{math.MinInt: false, -1: false, 0: true, 23: true, 24: false, math.MaxInt: false} {
 		if plain.IsFrame(&w, n) != want {
 			t.Errorf("%d is a frame: not %v", n, want)
+		}
+	}
+	for n, want := range map[int]bool{math.MinInt: false, -1: false, 0: true, 1: true, 2: false, math.MaxInt: false} {
+		if plain.IsCore(&w, n) != want {
+			t.Errorf("%d is a core: not %v", n, want)
 		}
 	}
 	for n, want := range map[int]bool{math.MinInt: false, -1: false, 0: true, 383: true, 384: false, math.MaxInt: false} {

@@ -1,6 +1,7 @@
 package sample
 
 import (
+	"slices"
 	"strconv"
 
 	"keyhold/api"
@@ -59,6 +60,15 @@ func Refused(begin api.World, do Call, want api.Errno, tell Tell) string {
 		wrong += "what is refused changes something; "
 	}
 	return wrong
+}
+
+// Same: are two worlds alike? (Differences tells how they are not, but takes its time.)
+func Same(a, b api.World) bool {
+	return slices.Equal(a.Ram, b.Ram) && slices.Equal(a.Kinds, b.Kinds) && slices.Equal(a.Slots, b.Slots) &&
+		slices.Equal(a.Tasks, b.Tasks) && slices.EqualFunc(a.Lines, b.Lines, slices.Equal[[]int]) &&
+		slices.Equal(a.Bits, b.Bits) && slices.Equal(a.Cores, b.Cores) &&
+		slices.EqualFunc(a.Ready, b.Ready, slices.Equal[[]int]) && slices.EqualFunc(a.Tlbs, b.Tlbs, slices.Equal[[]api.Entry]) &&
+		slices.Equal(a.Doms, b.Doms) && a.Time == b.Time
 }
 
 // Differences tells in which lists two worlds differ, and how.

@@ -76,7 +76,7 @@ func TestRefused(t *testing.T) {
 
 // Each field of a world is looked at.
 func TestDifferences(t *testing.T) {
-	if told := sample.Differences(sample.Full(), sample.Full(), fmt.Sprint); told != "" {
+	if told := sample.Differences(sample.Full(), sample.Full(), fmt.Sprint); told != "" || !sample.Same(sample.Full(), sample.Full()) {
 		t.Errorf("of two that are alike: %q", told)
 	}
 	for want, change := range map[string]sample.Change{
@@ -96,6 +96,9 @@ func TestDifferences(t *testing.T) {
 		change(&w)
 		if told := sample.Differences(w, sample.Full(), fmt.Sprint); !strings.HasPrefix(told, want) {
 			t.Errorf("%q, want %q", told, want)
+		}
+		if sample.Same(w, sample.Full()) || sample.Same(sample.Full(), w) {
+			t.Errorf("two are alike, in spite of %q", want)
 		}
 	}
 }

@@ -90,10 +90,3 @@ func disperse(w *api.World, frame int) {
 	}
 	w.Lines[frame], w.Bits[frame] = nil, 0
 }
-
-// forget: cores remember only what tables tell.
-func forget(w *api.World) {
-	for core, tlb := range w.Tlbs {
-		w.Tlbs[core] = slices.DeleteFunc(tlb, func(e api.Entry) bool { return !plain.Told(w, e) })
-	}
-}
