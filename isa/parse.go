@@ -4,21 +4,19 @@ import (
 	"strings"
 
 	"keyhold/api"
+	"keyhold/lines"
 )
 
-// Bounds of what stands in a text.
-const (
-	maxName   = 8
-	maxDigits = 5
-)
+// maxName: a label has no more letters and digits.
+const maxName = 8
 
 // Parse reads instructions, with labels.
 func Parse(text string) ([]api.Ins, error) {
 	if len(text) > api.MaxText {
 		return nil, api.ErrRange
 	}
-	lines := linesOf(text)
-	labels, others, err := findLabels(lines)
+	all := lines.Of(text)
+	labels, others, err := findLabels(all)
 	if err != nil {
 		return nil, err
 	}
@@ -26,7 +24,7 @@ func Parse(text string) ([]api.Ins, error) {
 		return nil, api.ErrRange
 	}
 	var l []api.Ins
-	for n, line := range lines {
+	for n, line := range all {
 		if isLabel(line) {
 			continue
 		}
@@ -39,20 +37,11 @@ func Parse(text string) ([]api.Ins, error) {
 	return l, nil
 }
 
-// linesOf: what stands behind the last newline is a line only if there is something; an empty text has none.
-func linesOf(text string) []string {
-	l := strings.Split(text, "\n")
-	if last := len(l) - 1; l[last] == "" {
-		l = l[:last]
-	}
-	return l
-}
-
 // findLabels tells for what each label stands, and how many lines are none.
-func findLabels(lines []string) (map[string]int, int, error) {
+func findLabels(all []string) (map[string]int, int, error) {
 	labels := map[string]int{}
 	others := 0
-	for n, line := range lines {
+	for n, line := range all {
 		if !isLabel(line) {
 			others++
 			continue
@@ -79,14 +68,12 @@ func isName(s string) bool {
 	}
 	for at, r := range s {
 		letter := 'a' <= r && r <= 'z'
-		if !letter && (at == 0 || !isDigit(r)) {
+		if !letter && (at == 0 || !lines.IsDigit(r)) {
 			return false
 		}
 	}
 	return true
 }
-
-func isDigit(r rune) bool { return '0' <= r && r <= '9' }
 
 // wordsOf hands out the words of a line one by one; false: none is left.
 func wordsOf(line string) func() (string, bool) {
@@ -179,21 +166,12 @@ func parseImm(w string, ok bool, labels map[string]int) (int, error) {
 	return v, nil
 }
 
-// readNumber: each number has one text: no nought ahead of others, no nought below nought.
+// readNumber: each number has one text: no nought below nought either.
 func readNumber(w string) (int, bool) {
 	digits, below := strings.CutPrefix(w, "-")
-	if digits == "" || len(digits) > maxDigits {
+	v, ok := lines.Number(digits)
+	if !ok || below && v == 0 {
 		return 0, false
-	}
-	if digits[0] == '0' && (below || len(digits) > 1) {
-		return 0, false
-	}
-	v := 0
-	for _, r := range digits {
-		if !isDigit(r) {
-			return 0, false
-		}
-		v = 10*v + int(r-'0')
 	}
 	if below {
 		v = -v

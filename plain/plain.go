@@ -9,9 +9,10 @@ import (
 // None stands where a frame, a slot or a task could be told, and there is none.
 const None = -1
 
-// MaxPage and MaxTime are the last page of a space, and the last time of a sound world.
+// MaxPage, MaxDom and MaxTime are the last page of a space, the last domain, and the last time of a sound world.
 const (
 	MaxPage = api.Words*api.Words - 1
+	MaxDom  = 3
 	MaxTime = 1000000
 )
 

@@ -25,7 +25,7 @@ func (v *view) numbersFit(t api.Running) bool {
 	if !plain.Within(t.State, api.Still, api.Listening) || !plain.Within(t.Prio, 0, api.MaxPrio-1) {
 		return false
 	}
-	return plain.Within(t.Core, 0, len(v.Cores)-1) && plain.Within(t.Dom, 0, maxDom)
+	return plain.Within(t.Core, 0, len(v.Cores)-1) && plain.Within(t.Dom, 0, plain.MaxDom)
 }
 
 func (v *view) framesFit(t api.Running) bool {
