@@ -14,15 +14,15 @@ func Do(w api.World, do func(w *api.World) error) (api.World, error) {
 	if world.Check(w) != nil {
 		return api.World{}, api.ErrState
 	}
-	next := twin(w)
+	next := Twin(w)
 	if err := do(&next); err != nil {
 		return api.World{}, err
 	}
 	return next, nil
 }
 
-// twin is the same world in memory of its own.
-func twin(w api.World) api.World {
+// Twin is the same world in memory of its own.
+func Twin(w api.World) api.World {
 	return api.World{
 		Ram:   slices.Clone(w.Ram),
 		Kinds: slices.Clone(w.Kinds),

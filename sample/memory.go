@@ -8,20 +8,21 @@ const mark = 4711
 // Roomy is the same world in other memory, with marks behind each list; and that world with these marks, in the same memory.
 func Roomy(w api.World) (roomy, whole api.World) {
 	roomy, whole = w, w
-	roomy.Ram, whole.Ram = room(w.Ram, mark)
-	roomy.Kinds, whole.Kinds = room(w.Kinds, mark)
-	roomy.Slots, whole.Slots = room(w.Slots, api.Slot{From: mark})
-	roomy.Tasks, whole.Tasks = room(w.Tasks, api.Running{Pc: mark})
-	roomy.Bits, whole.Bits = room(w.Bits, mark)
-	roomy.Cores, whole.Cores = room(w.Cores, mark)
-	roomy.Doms, whole.Doms = room(w.Doms, mark)
+	roomy.Ram, whole.Ram = Room(w.Ram, mark)
+	roomy.Kinds, whole.Kinds = Room(w.Kinds, mark)
+	roomy.Slots, whole.Slots = Room(w.Slots, api.Slot{From: mark})
+	roomy.Tasks, whole.Tasks = Room(w.Tasks, api.Running{Pc: mark})
+	roomy.Bits, whole.Bits = Room(w.Bits, mark)
+	roomy.Cores, whole.Cores = Room(w.Cores, mark)
+	roomy.Doms, whole.Doms = Room(w.Doms, mark)
 	roomy.Lines, whole.Lines = rooms(w.Lines, mark)
 	roomy.Ready, whole.Ready = rooms(w.Ready, mark)
 	roomy.Tlbs, whole.Tlbs = rooms(w.Tlbs, api.Entry{Page: mark})
 	return roomy, whole
 }
 
-func room[T any](l []T, behind T) (roomy, whole []T) {
+// Room is the same list in other memory, with marks behind it; and that list with these marks, in the same memory.
+func Room[T any](l []T, behind T) (roomy, whole []T) {
 	whole = append(append([]T{}, l...), behind, behind, behind, behind)
 	return whole[:len(l)], whole
 }
@@ -29,10 +30,10 @@ func room[T any](l []T, behind T) (roomy, whole []T) {
 // rooms: the list of the lists has room, too; what stands behind it is seen by the whole one alone.
 func rooms[T any](lists [][]T, behind T) (roomy, whole [][]T) {
 	for _, l := range lists {
-		short, long := room(l, behind)
+		short, long := Room(l, behind)
 		roomy, whole = append(roomy, short), append(whole, long)
 	}
-	roomy, more := room(roomy, []T{behind})
+	roomy, more := Room(roomy, []T{behind})
 	return roomy, append(whole, more[len(lists):]...)
 }
 
