@@ -83,17 +83,7 @@ func kinds() map[string]int {
 	}
 }
 
-func numbers(words []string) ([]int, error) {
-	l := make([]int, len(words))
-	for i, w := range words {
-		n, ok := number(w)
-		if !ok {
-			return nil, api.ErrWord
-		}
-		l[i] = n
-	}
-	return l, nil
-}
+func numbers(words []string) ([]int, error) { return lines.Numbers(words, number) }
 
 // number: a dash stands where there is none.
 func number(word string) (int, bool) {

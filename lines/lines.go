@@ -1,7 +1,11 @@
 // Package lines: texts line by line, and the numbers in them.
 package lines
 
-import "strings"
+import (
+	"strings"
+
+	"keyhold/api"
+)
 
 // maxDigits: a number of a text has no more digits.
 const maxDigits = 5
@@ -28,6 +32,19 @@ func Number(word string) (int, bool) {
 		v = 10*v + int(r-'0')
 	}
 	return v, true
+}
+
+// Numbers: each of the words has to be one, by what a text takes for a number.
+func Numbers(words []string, number func(word string) (int, bool)) ([]int, error) {
+	l := make([]int, len(words))
+	for i, w := range words {
+		n, ok := number(w)
+		if !ok {
+			return nil, api.ErrWord
+		}
+		l[i] = n
+	}
+	return l, nil
 }
 
 // IsDigit: is it one of 0 to 9?

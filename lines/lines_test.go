@@ -4,6 +4,7 @@ import (
 	"slices"
 	"testing"
 
+	"keyhold/api"
 	"keyhold/lines"
 )
 
@@ -31,6 +32,30 @@ func TestNumber(t *testing.T) {
 		if got, ok := lines.Number(word); ok || got != 0 {
 			t.Errorf("Number(%q): %d, %v", word, got, ok)
 		}
+	}
+}
+
+// What a number is, who asks says; all words have to be one.
+func TestNumbers(t *testing.T) {
+	long := func(word string) (int, bool) { return len(word), len(word) > 1 }
+	for _, c := range []struct {
+		words  []string
+		number func(word string) (int, bool)
+		want   []int
+	}{
+		{nil, lines.Number, nil}, {[]string{"0", "99999", "7"}, lines.Number, []int{0, 99999, 7}}, {[]string{"ab", "abc"}, long, []int{2, 3}},
+	} {
+		if got, err := lines.Numbers(c.words, c.number); err != nil || !slices.Equal(got, c.want) {
+			t.Errorf("Numbers(%q): %v, %v, want %v", c.words, got, err, c.want)
+		}
+	}
+	for _, words := range [][]string{{""}, {"x"}, {"1", "2", "x"}, {"x", "1"}, {"1", "", "2"}, {"-"}} {
+		if got, err := lines.Numbers(words, lines.Number); err != error(api.ErrWord) || got != nil {
+			t.Errorf("Numbers(%q): %v, %v", words, got, err)
+		}
+	}
+	if got, err := lines.Numbers([]string{"ab", "a"}, long); err != error(api.ErrWord) || got != nil {
+		t.Errorf("Numbers: %v, %v", got, err)
 	}
 }
 
